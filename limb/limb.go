@@ -64,3 +64,39 @@ func AddMul(z, a []uint64, w uint64) uint64 {
 	}
 	return carry
 }
+
+// SubMul takes a*w away from the lowest len(a) limbs of z, and answers the limb that is borrowed from above these.
+func SubMul(z, a []uint64, w uint64) uint64 {
+	z = z[:len(a)]
+	var borrow, c uint64
+	for i := range len(z) {
+		high, low := bits.Mul64(a[i], w)
+		// At most (B-1)*(B-1) + B-1 = (B-1)*B in all, with B = 2^64: where high is B-1, low is 0 and borrows nothing more.
+		low, c = bits.Add64(low, borrow, 0)
+		high += c
+		z[i], c = bits.Sub64(z[i], low, 0)
+		borrow = high + c
+	}
+	return borrow
+}
+
+// ShiftUp moves z by n bits, from 0 to 63, towards its end. (In Go a shift by all 64 bits gives 0, so n = 0 needs no case of its own.)
+func ShiftUp(z []uint64, n int) {
+	for i := range len(z) {
+		at := len(z) - 1 - i
+		z[at] <<= n
+		if at > 0 {
+			z[at] |= z[at-1] >> (64 - n)
+		}
+	}
+}
+
+// ShiftDown moves z by n bits, from 0 to 63, towards its beginning.
+func ShiftDown(z []uint64, n int) {
+	for i := range len(z) {
+		z[i] >>= n
+		if i+1 < len(z) {
+			z[i] |= z[i+1] << (64 - n)
+		}
+	}
+}

@@ -74,3 +74,52 @@ func TestAddMul(t *testing.T) {
 		}
 	}
 }
+
+func TestSubMulUndoesAddMul(t *testing.T) {
+	for _, c := range []struct {
+		z, a []uint64
+		w    uint64
+	}{
+		{[]uint64{4, 9}, nil, m},
+		{[]uint64{4, 9}, []uint64{5}, 3},
+		{[]uint64{0}, []uint64{m}, m},
+		{[]uint64{m, m, 7}, []uint64{m, m}, m},
+		{[]uint64{0, 0, 7}, []uint64{m, m}, m},
+		{[]uint64{1, 2}, []uint64{m, m}, 0},
+		{[]uint64{0, 0, 0}, []uint64{1, 0, 1 << 63}, 2},
+	} {
+		z := slices.Clone(c.z)
+		carry := AddMul(z, c.a, c.w)
+		if borrow := SubMul(z, c.a, c.w); borrow != carry || !slices.Equal(z, c.z) {
+			t.Errorf("SubMul of %v * %d: %v, borrow %d, want %v, %d", c.a, c.w, z, borrow, c.z, carry)
+		}
+	}
+}
+
+func TestShifts(t *testing.T) {
+	for _, c := range []struct {
+		low, high []uint64
+		n         int
+	}{
+		{nil, nil, 5},
+		{[]uint64{m, 7}, []uint64{m, 7}, 0},
+		{[]uint64{m, 1}, []uint64{m - 1, 3}, 1},
+		{[]uint64{m, 0}, []uint64{1 << 63, m >> 1}, 63},
+		{[]uint64{1, 2, 0}, []uint64{1 << 32, 2 << 32, 0}, 32},
+	} {
+		z := slices.Clone(c.low)
+		if ShiftUp(z, c.n); !slices.Equal(z, c.high) {
+			t.Errorf("%v up by %d: %v, want %v", c.low, c.n, z, c.high)
+		}
+		if ShiftDown(z, c.n); !slices.Equal(z, c.low) {
+			t.Errorf("%v down by %d: %v, want %v", c.high, c.n, z, c.low)
+		}
+	}
+	z := []uint64{m, m}
+	if ShiftUp(z, 4); !slices.Equal(z, []uint64{m - 15, m}) {
+		t.Errorf("what is moved out at the end stays: %v", z)
+	}
+	if ShiftDown(z, 60); !slices.Equal(z, []uint64{m, 15}) {
+		t.Errorf("what is moved out at the beginning stays: %v", z)
+	}
+}

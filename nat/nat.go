@@ -120,7 +120,7 @@ func Shl(a []uint64, n int) ([]uint64, api.Errno) {
 	}
 	moved := make([]uint64, len(a)+n/64+1)
 	copy(moved[n/64:], a)
-	shiftUp(moved, n%64)
+	limb.ShiftUp(moved, n%64)
 	return limb.Trim(moved), api.OK
 }
 
@@ -137,7 +137,7 @@ func Shr(a []uint64, n int) ([]uint64, api.Errno) {
 	}
 	_, high := limb.Cut(a, n/64)
 	moved := copied(high, len(high))
-	shiftDown(moved, n%64)
+	limb.ShiftDown(moved, n%64)
 	return limb.Trim(moved), api.OK
 }
 
@@ -206,25 +206,4 @@ func order(below bool) int {
 		return -1
 	}
 	return 1
-}
-
-// shiftUp moves z by n bits, from 0 to 63, towards its end. (In Go a shift by all 64 bits gives 0, so n = 0 needs no case of its own.)
-func shiftUp(z []uint64, n int) {
-	for i := range len(z) {
-		at := len(z) - 1 - i
-		z[at] <<= n
-		if at > 0 {
-			z[at] |= z[at-1] >> (64 - n)
-		}
-	}
-}
-
-// shiftDown moves z by n bits, from 0 to 63, towards its beginning.
-func shiftDown(z []uint64, n int) {
-	for i := range len(z) {
-		z[i] >>= n
-		if i+1 < len(z) {
-			z[i] |= z[i+1] << (64 - n)
-		}
-	}
 }

@@ -1,7 +1,6 @@
 package nat_test
 
 import (
-	"encoding/binary"
 	"math"
 	"math/big"
 	"slices"
@@ -9,6 +8,7 @@ import (
 
 	"gnomon/api"
 	"gnomon/nat"
+	"gnomon/oracle"
 )
 
 const (
@@ -19,28 +19,7 @@ const (
 // limbs is short for a list of limbs.
 type limbs = []uint64
 
-func noughts(n int, behind ...uint64) limbs { return append(make(limbs, n), behind...) }
-
-func ones(n int) limbs { return slices.Repeat(limbs{m}, n) }
-
-// number: what any list stands for, by the library's own whole numbers.
-func number(a limbs) *big.Int {
-	var text []byte
-	for i := range len(a) {
-		text = binary.BigEndian.AppendUint64(text, a[len(a)-1-i])
-	}
-	return new(big.Int).SetBytes(text)
-}
-
-// natural: the one list in form for a number from 0 on.
-func natural(x *big.Int) limbs {
-	n := (x.BitLen() + 63) / 64
-	text, a := x.FillBytes(make([]byte, 8*n)), make(limbs, n)
-	for i := range n {
-		a[n-1-i] = binary.BigEndian.Uint64(text[8*i:])
-	}
-	return a
-}
+var noughts, ones, number, natural, misshapen = oracle.Noughts, oracle.Ones, oracle.Number, oracle.Natural, oracle.Misshapen
 
 // samples: naturals in form of 0 to 6 limbs, with limbs at their edges and between.
 func samples() []limbs {
@@ -59,11 +38,6 @@ func samples() []limbs {
 		out = append(out, ones(n+1), noughts(n, 1))
 	}
 	return out
-}
-
-// misshapen: lists that are not in form.
-func misshapen() []limbs {
-	return []limbs{{0}, {0, 0}, {5, 0}, {0, 7, 0}, noughts(maxLimbs), noughts(maxLimbs, 1), ones(maxLimbs + 1), noughts(maxLimbs+7, 3)}
 }
 
 type answer struct {

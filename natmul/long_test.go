@@ -3,24 +3,11 @@ package natmul
 import (
 	"slices"
 	"testing"
+
+	"gnomon/oracle"
 )
 
-// mixed: n limbs, many of them all noughts or all ones, so that carries and borrows run far.
-func mixed(n int, seed uint64) []uint64 {
-	a := make([]uint64, n)
-	for i := range a {
-		seed = seed*6364136223846793005 + 1442695040888963407
-		switch seed >> 61 {
-		case 0, 1:
-			a[i] = 0
-		case 2, 3:
-			a[i] = 1<<64 - 1
-		default:
-			a[i] = seed ^ seed>>29
-		}
-	}
-	return a
-}
+var mixed = oracle.Mixed
 
 func dirty(n int) []uint64 { return slices.Repeat([]uint64{0xdddddddddddddddd}, n) }
 

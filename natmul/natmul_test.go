@@ -1,7 +1,6 @@
 package natmul_test
 
 import (
-	"encoding/binary"
 	"math"
 	"math/big"
 	"slices"
@@ -10,6 +9,7 @@ import (
 	"gnomon/api"
 	"gnomon/nat"
 	"gnomon/natmul"
+	"gnomon/oracle"
 )
 
 const (
@@ -20,28 +20,7 @@ const (
 // limbs is short for a list of limbs.
 type limbs = []uint64
 
-func noughts(n int, behind ...uint64) limbs { return append(make(limbs, n), behind...) }
-
-func ones(n int) limbs { return slices.Repeat(limbs{m}, n) }
-
-// number: what a list stands for, by the library's own whole numbers.
-func number(a limbs) *big.Int {
-	var text []byte
-	for i := range len(a) {
-		text = binary.BigEndian.AppendUint64(text, a[len(a)-1-i])
-	}
-	return new(big.Int).SetBytes(text)
-}
-
-// natural: the one list in form for a number from 0 on.
-func natural(x *big.Int) limbs {
-	n := (x.BitLen() + 63) / 64
-	text, a := x.FillBytes(make([]byte, 8*n)), make(limbs, n)
-	for i := range n {
-		a[n-1-i] = binary.BigEndian.Uint64(text[8*i:])
-	}
-	return a
-}
+var noughts, ones, number, natural, misshapen = oracle.Noughts, oracle.Ones, oracle.Number, oracle.Natural, oracle.Misshapen
 
 // ofLength: a natural of n limbs that looks like none in particular.
 func ofLength(n int) limbs {
@@ -60,11 +39,6 @@ func samples() []limbs {
 		out = append(out, ofLength(n), ones(n), noughts(n-1, 1))
 	}
 	return out
-}
-
-// misshapen: lists that are not in form.
-func misshapen() []limbs {
-	return []limbs{{0}, {0, 0}, {5, 0}, {0, 7, 0}, noughts(maxLimbs), noughts(maxLimbs, 1), ones(maxLimbs + 1)}
 }
 
 type answer struct {

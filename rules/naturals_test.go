@@ -8,6 +8,7 @@ import (
 
 	"gnomon/api"
 	"gnomon/nat"
+	"gnomon/natdiv"
 	"gnomon/natmul"
 )
 
@@ -61,6 +62,36 @@ func parts(k int) call {
 	}}
 }
 
+func pair(name string, f func(in []limbs) (limbs, limbs, api.Errno), lists int) call {
+	return call{name, lists, func(in []limbs) ([]limbs, api.Errno) {
+		x, y, e := f(in)
+		return []limbs{x, y}, e
+	}}
+}
+
+func quotient(in []limbs) (limbs, limbs, api.Errno) { return natdiv.QuoRem(in[0], in[1]) }
+
+func root(in []limbs) (limbs, limbs, api.Errno) { return natdiv.Root(in[0]) }
+
+// text: the bytes of Text, one a limb (none of them is 0).
+func text(a limbs) (limbs, api.Errno) {
+	s, e := natdiv.Text(a)
+	var out limbs
+	for _, b := range []byte(s) {
+		out = append(out, uint64(b))
+	}
+	return out, e
+}
+
+// read: Read of one digit a limb.
+func read(a limbs) (limbs, api.Errno) {
+	var s []byte
+	for _, w := range a {
+		s = append(s, '0'+byte(w%11))
+	}
+	return natdiv.Read(string(s))
+}
+
 func product(lists int) call {
 	return call{"natmul.Product", lists, func(in []limbs) ([]limbs, api.Errno) {
 		list := slices.Clone(in)
@@ -77,6 +108,7 @@ func naturalCalls() []call {
 		one("nat.Norm", nat.Norm), two("nat.Add", nat.Add), two("nat.Sub", nat.Sub),
 		two("natmul.Mul", natmul.Mul), one("natmul.Sqr", natmul.Sqr),
 		product(0), product(1), product(2),
+		pair("natdiv.QuoRem", quotient, 2), pair("natdiv.Root", root, 1), one("natdiv.Text", text), one("natdiv.Read", read),
 	}
 	shifts := []int{0, 1, 63, 64, 65, 1000, 524288, math.MaxInt, -1, math.MinInt}
 	out = append(out, withInt("nat.Shl", nat.Shl, shifts...)...)
@@ -166,21 +198,31 @@ func holds(t *testing.T, c call, values []limbs) {
 	}
 }
 
-func TestNaturalsKeepTheRules(t *testing.T) {
+// lists: naturals short and long, and what is none.
+func lists() []limbs {
 	full := slices.Repeat(limbs{math.MaxUint64}, 8192)
 	long := slices.Repeat(limbs{0x8000000000000001}, 130)
-	values := []limbs{nil, {}, {1}, {5, 7}, {0, 0, 1}, long, full, {0}, {5, 0}, append(slices.Clone(full), 1)}
-	for _, c := range naturalCalls() {
-		for _, a := range values {
+	return []limbs{nil, {}, {1}, {5, 7}, {0, 0, 1}, long, full, {0}, {5, 0}, append(slices.Clone(full), 1)}
+}
+
+// allHold runs each call at each list, or each pair of lists.
+func allHold(t *testing.T, calls []call) {
+	t.Helper()
+	for _, c := range calls {
+		for _, a := range lists() {
 			if c.lists < 2 {
 				holds(t, c, []limbs{a})
 				continue
 			}
-			for _, b := range values {
+			for _, b := range lists() {
 				holds(t, c, []limbs{a, b})
 			}
 		}
 	}
+}
+
+func TestNaturalsKeepTheRules(t *testing.T) {
+	allHold(t, naturalCalls())
 }
 
 // The calls without a list in their answer, and Word, which has no list in its argument.
@@ -215,13 +257,14 @@ func TestNaturalsAsked(t *testing.T) {
 	}
 }
 
-// One list handed in twice, and lists that overlap, are as good as two apart.
-func TestNaturalsOverlap(t *testing.T) {
+// overlap runs the calls of two lists at lists that overlap: these are as good as two apart.
+func overlap(t *testing.T, calls []call) {
+	t.Helper()
 	for _, n := range []int{1, 3, 50, 200} {
 		whole := slices.Repeat(limbs{math.MaxUint64, 3}, n)
 		before := slices.Clone(whole)
 		a, b := whole[:n+1], whole[n:]
-		for _, c := range naturalCalls() {
+		for _, c := range calls {
 			if c.lists != 2 {
 				continue
 			}
@@ -237,4 +280,8 @@ func TestNaturalsOverlap(t *testing.T) {
 			}
 		}
 	}
+}
+
+func TestNaturalsOverlap(t *testing.T) {
+	overlap(t, naturalCalls())
 }
