@@ -3,7 +3,6 @@ package dyadic_test
 import (
 	"math"
 	"math/big"
-	"slices"
 	"testing"
 
 	"gnomon/api"
@@ -18,7 +17,10 @@ const (
 	lowest = math.MinInt
 )
 
-var value, inForm, tell = oracle.Value, oracle.Dyadic, oracle.Tell
+var (
+	value, inForm, tell = oracle.Value, oracle.Dyadic, oracle.Tell
+	n, long, gap, minus = oracle.Fields, oracle.Long, oracle.Gap, oracle.Opposite
+)
 
 type answer struct {
 	got api.Dyadic
@@ -29,7 +31,7 @@ func of(got api.Dyadic, e api.Errno) answer { return answer{got, e} }
 
 func (a answer) is(t *testing.T, call string, want api.Dyadic, e api.Errno) {
 	t.Helper()
-	if a.e != e || a.got.Exp != want.Exp || a.got.Man.Neg != want.Man.Neg || !slices.Equal(a.got.Man.Mag, want.Man.Mag) {
+	if a.e != e || !oracle.Same(a.got, want) {
 		t.Errorf("%s = %s, error %d, want %s, error %d", call, tell(a.got), a.e, tell(want), e)
 	}
 }
@@ -38,26 +40,6 @@ func (a answer) is(t *testing.T, call string, want api.Dyadic, e api.Errno) {
 func (a answer) fails(t *testing.T, call string, e api.Errno) {
 	t.Helper()
 	a.is(t, call, api.Dyadic{}, e)
-}
-
-// n: the dyadic with these fields, in form or not.
-func n(m, e int) api.Dyadic { return api.Dyadic{Man: num.Of(m), Exp: e} }
-
-// long: the dyadic whose Man has that many limbs, all ones.
-func long(limbs, e int) api.Dyadic {
-	return api.Dyadic{Man: api.Int{Mag: oracle.Ones(limbs)}, Exp: e}
-}
-
-// gap: 2^(64*limbs - 1) + 1, which has that many limbs.
-func gap(limbs, e int) api.Dyadic {
-	mag := oracle.Noughts(limbs-1, 1<<63)
-	mag[0] |= 1
-	return api.Dyadic{Man: api.Int{Mag: mag}, Exp: e}
-}
-
-func minus(d api.Dyadic) api.Dyadic {
-	d.Man.Neg = !d.Man.Neg
-	return d
 }
 
 // samples: numbers in form, short and of some limbs, near 1 and farther away.

@@ -2,6 +2,7 @@ package oracle
 
 import (
 	"math/big"
+	"slices"
 	"strconv"
 
 	"gnomon/api"
@@ -70,6 +71,34 @@ func power(e int) *big.Rat {
 		return new(big.Rat).SetFrac(one, new(big.Int).Lsh(one, uint(-e)))
 	}
 	return new(big.Rat).SetInt(new(big.Int).Lsh(one, uint(e)))
+}
+
+// Fields: the dyadic with these fields, in form or not.
+func Fields(m, e int) api.Dyadic {
+	return api.Dyadic{Man: Int(big.NewInt(int64(m))), Exp: e}
+}
+
+// Long: the dyadic whose Man has that many limbs, all ones.
+func Long(limbs, e int) api.Dyadic {
+	return api.Dyadic{Man: api.Int{Mag: Ones(limbs)}, Exp: e}
+}
+
+// Gap: (2^(64*limbs - 1) + 1) * 2^e, whose Man has that many limbs.
+func Gap(limbs, e int) api.Dyadic {
+	mag := Noughts(limbs-1, 1<<63)
+	mag[0] |= 1
+	return api.Dyadic{Man: api.Int{Mag: mag}, Exp: e}
+}
+
+// Opposite: -d, of a d that is not nought.
+func Opposite(d api.Dyadic) api.Dyadic {
+	d.Man.Neg = !d.Man.Neg
+	return d
+}
+
+// Same: are all fields alike? Of dyadics in form: are they one number?
+func Same(a, b api.Dyadic) bool {
+	return a.Exp == b.Exp && a.Man.Neg == b.Man.Neg && slices.Equal(a.Man.Mag, b.Man.Mag)
 }
 
 // MisshapenDyadics: what is not in form.

@@ -19,7 +19,10 @@ const (
 	lowest = math.MinInt
 )
 
-var value, inForm, tell, tellSpan = oracle.Value, oracle.Dyadic, oracle.Tell, oracle.TellSpan
+var (
+	value, inForm, tell, tellSpan = oracle.Value, oracle.Dyadic, oracle.Tell, oracle.TellSpan
+	long, minus, same             = oracle.Long, oracle.Opposite, oracle.Same
+)
 
 type answer struct {
 	got api.Span
@@ -27,10 +30,6 @@ type answer struct {
 }
 
 func of(got api.Span, e api.Errno) answer { return answer{got, e} }
-
-func same(a, b api.Dyadic) bool {
-	return a.Exp == b.Exp && a.Man.Neg == b.Man.Neg && slices.Equal(a.Man.Mag, b.Man.Mag)
-}
 
 func (a answer) is(t *testing.T, call string, want api.Span, e api.Errno) {
 	t.Helper()
@@ -59,16 +58,6 @@ func whole(lo, hi int) api.Span { return units(lo, hi, 0) }
 
 // units: from lo to hi, in units of 2^e.
 func units(lo, hi, e int) api.Span { return api.Span{Lo: n(lo, e), Hi: n(hi, e)} }
-
-// long: the dyadic whose Man has that many limbs, all ones.
-func long(limbs, e int) api.Dyadic {
-	return api.Dyadic{Man: api.Int{Mag: oracle.Ones(limbs)}, Exp: e}
-}
-
-func minus(d api.Dyadic) api.Dyadic {
-	d.Man.Neg = !d.Man.Neg
-	return d
-}
 
 func point(d api.Dyadic) api.Span { return api.Span{Lo: d, Hi: d} }
 
