@@ -38,20 +38,26 @@ func nearest(x api.Dyadic, bits int) api.Int {
 	}
 }
 
-// remainder: a k, and a span of x - k*pi/2. k times half is off by at most k units, and with spare bits beyond p that is far less than a step of the grid on which the ends lie. Where k is not the nearest, x lies so near to half way that the remainder is hardly greater than pi/4.
+// remainder: a k, and a span of x - k*pi/2. With spare bits beyond p the bounds of what is left lie far less than a step of the ends' grid apart. Where k is not the nearest, x lies so near to half way that the remainder is hardly greater than pi/4.
 func remainder(x api.Dyadic, p int) (api.Int, api.Span) {
 	c := count(x, p+spare)
 	k, _ := num.NearDiv(c.x, c.half)
-	multiple, _ := num.Mul(k, c.half)
-	one, _ := num.Sub(c.x, multiple)
-	other, _ := num.Sub(one, k)
-	if num.Sign(k) < 0 {
-		one, other = other, one
-	}
+	low, high := c.left(k)
 	grid := p + 8
-	lo, _ := num.FloorShr(other, c.places-grid)
-	hi, _ := num.CeilShr(one, c.places-grid)
+	lo, _ := num.FloorShr(low, c.places-grid)
+	hi, _ := num.CeilShr(high, c.places-grid)
 	return k, api.Span{Lo: multipleOf(lo, grid), Hi: multipleOf(hi, grid)}
+}
+
+// left: bounds of x - k*pi/2, counted as x is. k times half is off by less than k.
+func (c counted) left(k api.Int) (low, high api.Int) {
+	multiple, _ := num.Mul(k, c.half)
+	high, _ = num.Sub(c.x, multiple)
+	low, _ = num.Sub(high, k)
+	if k.Neg {
+		return high, low
+	}
+	return low, high
 }
 
 // multipleOf: m * 2^-grid.

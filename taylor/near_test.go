@@ -63,6 +63,25 @@ func TestSquareIsNear(t *testing.T) {
 	}
 }
 
+// A number whose square is cut by as much as can be: nearly two units for what is cut from the number, nearly one for what is cut from the square.
+func TestSquareIsOffByNearlyThree(t *testing.T) {
+	const places, more = 64, 10
+	units := new(big.Int).Lsh(big.NewInt(1), places)
+	units.Sub(units, big.NewInt(1<<(places/2)-1)) // the square of 2^32 - 1 is nearly 2^64
+	fine := new(big.Int).Lsh(units, more)
+	fine.Add(fine, big.NewInt(1<<more-1))
+	a := squareOf(oracle.Times(fine, -places-more), places)
+	fine.Mul(fine, fine)
+	least := new(big.Int).Add(oracle.Number(a.units), big.NewInt(2))
+	if oracle.Order(least, -places, fine, -2*(places+more)) >= 0 {
+		t.Errorf("the square is off by less than 2 units")
+	}
+	most := new(big.Int).Add(oracle.Number(a.units), new(big.Int).SetUint64(a.off))
+	if oracle.Order(most, -places, fine, -2*(places+more)) < 0 {
+		t.Errorf("the square is off by more than it says")
+	}
+}
+
 func TestRatioIsNear(t *testing.T) {
 	for _, v := range fractions() {
 		for _, places := range []int{33, 34, 50, 96, 160, 400} {
