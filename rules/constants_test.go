@@ -67,19 +67,24 @@ func TestConstantsKeepTheRules(t *testing.T) {
 	}
 }
 
-// What was answered and is written over, with all its room, changes no later answer, and what is called between doesn't either.
-func TestConstantsAreToldAnew(t *testing.T) {
+// toldAnew: what was answered and is written over, with all its room, changes no later answer, and what is called between doesn't either.
+func toldAnew(t *testing.T, calls []call) {
+	t.Helper()
 	var told [][]limbs
-	for _, c := range constantCalls() {
+	for _, c := range calls {
 		answer, _ := c.run(nil)
 		told = append(told, cloneAll(answer))
 		for _, a := range answer {
 			scribble(a)
 		}
 	}
-	for i, c := range constantCalls() {
+	for i, c := range calls {
 		if answer, _ := c.run(nil); !sameAll(answer, told[i]) {
 			t.Errorf("%s: another answer behind other calls", c.name)
 		}
 	}
+}
+
+func TestConstantsAreToldAnew(t *testing.T) {
+	toldAnew(t, constantCalls())
 }

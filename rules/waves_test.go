@@ -94,7 +94,6 @@ func TestTaylorCallsAnswer(t *testing.T) {
 	}
 }
 
-// What was answered and is written over changes no later answer.
 func TestWavesAreToldAnew(t *testing.T) {
 	one := limbs{1}
 	calls := reduceCalls()
@@ -103,17 +102,5 @@ func TestWavesAreToldAnew(t *testing.T) {
 			calls = append(calls, plain(c.name, func() ([]limbs, api.Errno) { return c.run([]limbs{one}) }))
 		}
 	}
-	var told [][]limbs
-	for _, c := range calls {
-		answer, _ := c.run(nil)
-		told = append(told, cloneAll(answer))
-		for _, a := range answer {
-			scribble(a)
-		}
-	}
-	for i, c := range calls {
-		if answer, _ := c.run(nil); !sameAll(answer, told[i]) {
-			t.Errorf("%s: another answer behind other calls", c.name)
-		}
-	}
+	toldAnew(t, calls)
 }

@@ -113,7 +113,7 @@ func TestP15_3_NoughtStays(t *testing.T) {
 		if s, e := taylor.SinOver(api.Span{}, p); e != api.OK || !empty(s) {
 			t.Errorf("SinOver([0, 0], %d) is %s, error %d", p, oracle.TellSpan(s), e)
 		}
-		if s, e := taylor.CosOver(api.Span{}, p); e != api.OK || !shapely(s, p) || !thin(s, p) || !oracle.Same(s.Hi, one) {
+		if s, e := taylor.CosOver(api.Span{}, p); e != api.OK || !shapely(s, p) || !oracle.Thin(s, p) || !oracle.Same(s.Hi, one) {
 			t.Errorf("CosOver([0, 0], %d) is %s, error %d", p, oracle.TellSpan(s), e)
 		}
 	}

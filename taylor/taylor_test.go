@@ -60,16 +60,6 @@ func shapely(s api.Span, p int) bool {
 	return true
 }
 
-// thin: is the width of s at most 2^-p times the smaller one of its ends' sizes?
-func thin(s api.Span, p int) bool {
-	exp := min(s.Lo.Exp, s.Hi.Exp)
-	lo := oracle.Shifted(oracle.Whole(s.Lo.Man), s.Lo.Exp-exp)
-	hi := oracle.Shifted(oracle.Whole(s.Hi.Man), s.Hi.Exp-exp)
-	width := new(big.Int).Sub(hi, lo)
-	width.Lsh(width, uint(p))
-	return width.CmpAbs(lo) <= 0 && width.CmpAbs(hi) <= 0
-}
-
 func same(s api.Span, lo, hi api.Dyadic) bool { return oracle.Same(s.Lo, lo) && oracle.Same(s.Hi, hi) }
 
 func empty(s api.Span) bool { return same(s, api.Dyadic{}, api.Dyadic{}) }
@@ -94,11 +84,11 @@ func precisions() []int { return []int{1, 2, 3, 10, 31, 32, 53, 64, 100, 300, 70
 func sinRight(t *testing.T, x api.Dyadic, p int, sin value) {
 	t.Helper()
 	s, e := taylor.Sin(x, p)
-	if e != api.OK || !shapely(s, p) || !thin(s, p) || s.Lo.Man.Neg || !sin.below(s.Lo, p) || !sin.above(s.Hi, p) {
+	if e != api.OK || !shapely(s, p) || !oracle.Thin(s, p) || s.Lo.Man.Neg || !sin.below(s.Lo, p) || !sin.above(s.Hi, p) {
 		t.Errorf("Sin(%s, %d) is %s, error %d", oracle.Tell(x), p, oracle.TellSpan(s), e)
 	}
 	s, e = taylor.Sin(oracle.Opposite(x), p)
-	if e != api.OK || !shapely(s, p) || !thin(s, p) || !s.Hi.Man.Neg || !sin.above(s.Lo, p) || !sin.below(s.Hi, p) {
+	if e != api.OK || !shapely(s, p) || !oracle.Thin(s, p) || !s.Hi.Man.Neg || !sin.above(s.Lo, p) || !sin.below(s.Hi, p) {
 		t.Errorf("Sin(-%s, %d) is %s, error %d", oracle.Tell(x), p, oracle.TellSpan(s), e)
 	}
 }
@@ -108,7 +98,7 @@ func cosRight(t *testing.T, x api.Dyadic, p int, cos value) {
 	t.Helper()
 	for _, y := range []api.Dyadic{x, oracle.Opposite(x)} {
 		s, e := taylor.Cos(y, p)
-		if e != api.OK || !shapely(s, p) || !thin(s, p) || s.Lo.Man.Neg || !cos.below(s.Lo, p) || !cos.above(s.Hi, p) {
+		if e != api.OK || !shapely(s, p) || !oracle.Thin(s, p) || s.Lo.Man.Neg || !cos.below(s.Lo, p) || !cos.above(s.Hi, p) {
 			t.Errorf("Cos(%s, %d) is %s, error %d", oracle.Tell(y), p, oracle.TellSpan(s), e)
 		}
 	}
@@ -140,10 +130,10 @@ func TestP15_1_P15_2_AtMaxSeries(t *testing.T) {
 	for _, x := range []api.Dyadic{one, oracle.Gap(api.MaxLimbs, -64*api.MaxLimbs), number(1, -2000), number(1, -524288)} {
 		p := api.MaxSeries
 		sin, cos := waves(x, p)
-		if s, e := taylor.Sin(x, p); e != api.OK || !shapely(s, p) || !thin(s, p) || !sin.below(s.Lo, p) || !sin.above(s.Hi, p) {
+		if s, e := taylor.Sin(x, p); e != api.OK || !shapely(s, p) || !oracle.Thin(s, p) || !sin.below(s.Lo, p) || !sin.above(s.Hi, p) {
 			t.Errorf("Sin(%s, %d) is %s, error %d", oracle.Tell(x), p, oracle.TellSpan(s), e)
 		}
-		if s, e := taylor.Cos(x, p); e != api.OK || !shapely(s, p) || !thin(s, p) || !cos.below(s.Lo, p) || !cos.above(s.Hi, p) {
+		if s, e := taylor.Cos(x, p); e != api.OK || !shapely(s, p) || !oracle.Thin(s, p) || !cos.below(s.Lo, p) || !cos.above(s.Hi, p) {
 			t.Errorf("Cos(%s, %d) is %s, error %d", oracle.Tell(x), p, oracle.TellSpan(s), e)
 		}
 	}
@@ -164,14 +154,14 @@ func TestP15_1_P15_2_Nought(t *testing.T) {
 
 // The chapter's examples name spans that hold the value too.
 func TestP15_1_P15_2_Examples(t *testing.T) {
-	if s, e := taylor.Sin(one, 10); e != api.OK || !thin(s, 10) || !meets(s, api.Span{Lo: number(1723, -11), Hi: number(431, -9)}) {
+	if s, e := taylor.Sin(one, 10); e != api.OK || !oracle.Thin(s, 10) || !meets(s, api.Span{Lo: number(1723, -11), Hi: number(431, -9)}) {
 		t.Errorf("Sin(1, 10) is %s, error %d", oracle.TellSpan(s), e)
 	}
-	if s, e := taylor.Cos(one, 4); e != api.OK || !thin(s, 4) || !meets(s, api.Span{Lo: number(17, -5), Hi: number(35, -6)}) {
+	if s, e := taylor.Cos(one, 4); e != api.OK || !oracle.Thin(s, 4) || !meets(s, api.Span{Lo: number(17, -5), Hi: number(35, -6)}) {
 		t.Errorf("Cos(1, 4) is %s, error %d", oracle.TellSpan(s), e)
 	}
 	s, e := taylor.Sin(number(1, -2000), 100)
-	if below, _ := dyadic.Cmp(s.Lo, number(1, -2000)); e != api.OK || !thin(s, 100) || below >= 0 {
+	if below, _ := dyadic.Cmp(s.Lo, number(1, -2000)); e != api.OK || !oracle.Thin(s, 100) || below >= 0 {
 		t.Errorf("Sin(2^-2000, 100) is %s, error %d", oracle.TellSpan(s), e)
 	}
 }
