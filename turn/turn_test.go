@@ -20,29 +20,10 @@ const extra = 100
 
 func bitsOf(x float64) uint64 { return math.Float64bits(x) }
 
-// eighths: all multiples of 1/8 up to 6, and the last numbers that have quarters, halves and ones, and what follows them.
-func eighths(f api.Format) []float64 {
-	var out []float64
-	for i := range 49 {
-		out = append(out, float64(i)/8)
-	}
-	whole := 0x1p52 // from here on there are whole numbers alone
-	if f == api.Single {
-		whole = 0x1p23
-	}
-	for _, top := range []float64{whole / 4, whole / 2, whole, 2 * whole} {
-		for i := range 8 {
-			step := float64(i) * top / whole / 2
-			out = append(out, top-step, top+2*step)
-		}
-	}
-	return append(out, 4*whole, 0x1p100, 0x1p127)
-}
-
 // patterns: finite ones of both signs: the eighths and what stands beside them, tiny and great numbers, and many others.
 func patterns(f api.Format) []uint64 {
 	out := oracle.Finite(f)
-	for _, x := range eighths(f) {
+	for _, x := range oracle.Eighths(f) {
 		for _, b := range []uint64{oracle.Bits(f, x), oracle.Bits(f, -x)} {
 			out = append(out, b, b+1)
 			if x != 0 {
@@ -91,44 +72,6 @@ func TestP17_1_Reduce(t *testing.T) {
 	}
 }
 
-// odd: is x whole and odd?
-func odd(x *big.Rat) bool { return x.IsInt() && x.Num().Bit(0) == 1 }
-
-// less: x - n/d.
-func less(x *big.Rat, n, d int64) *big.Rat { return new(big.Rat).Sub(x, big.NewRat(n, d)) }
-
-func times(x *big.Rat, m int64) *big.Rat { return new(big.Rat).Mul(x, big.NewRat(m, 1)) }
-
-// exact: what P17.2 says of a finite x that is not nought, word by word.
-func exact(fn api.Fn, x *big.Rat) (float64, bool) {
-	minus := math.Copysign(0, -1)
-	half := odd(times(x, 2))
-	switch {
-	case fn == api.SinPi && x.IsInt():
-		return math.Copysign(0, float64(x.Sign())), true
-	case fn == api.CosPi && x.IsInt():
-		return choose(!odd(x), 1, -1), true
-	case fn == api.TanPi && x.IsInt():
-		return choose(!odd(x) && x.Sign() > 0 || odd(x) && x.Sign() < 0, 0, minus), true
-	case fn == api.SinPi && half:
-		return choose(!odd(less(x, 1, 2)), 1, -1), true
-	case fn == api.CosPi && half:
-		return 0, true
-	case fn == api.TanPi && half:
-		return choose(!odd(less(x, 1, 2)), math.Inf(1), math.Inf(-1)), true
-	case fn == api.TanPi && odd(times(x, 4)):
-		return choose(less(x, 1, 4).IsInt(), 1, -1), true
-	}
-	return 0, false
-}
-
-func choose(truth bool, yes, no float64) float64 {
-	if truth {
-		return yes
-	}
-	return no
-}
-
 func TestP17_2_Finite(t *testing.T) {
 	for _, f := range oracle.Formats() {
 		for _, b := range patterns(f) {
@@ -137,7 +80,7 @@ func TestP17_2_Finite(t *testing.T) {
 				continue
 			}
 			for _, fn := range functions {
-				value, ok := exact(fn, x)
+				value, ok := oracle.ExactTurn(fn, x)
 				want := oracle.Bits(f, value)
 				if got, yes, e := turn.Exact(f, fn, b); got != want || yes != ok || e != api.OK {
 					t.Errorf("Exact(%d, %d, %x) is %x, %v, error %d; want %x, %v", f, fn, b, got, yes, e, want, ok)
@@ -197,7 +140,7 @@ func point(s api.Span, x float64) bool {
 func right(t *testing.T, fn api.Fn, b uint64, p int, v oracle.Real) {
 	t.Helper()
 	s, e := turn.Enclose(fn, b, p)
-	value, ok := exact(fn, oracle.ValueOf(api.Double, b))
+	value, ok := oracle.ExactTurn(fn, oracle.ValueOf(api.Double, b))
 	switch {
 	case ok && math.IsInf(value, 0):
 		if e != api.ErrClass || !point(s, 0) {
