@@ -61,17 +61,6 @@ func TestP9_10_AllKinds(t *testing.T) {
 	}
 }
 
-// words: so many words without a rule, the same ones each time.
-func words(n int) []uint64 {
-	s := uint64(20)
-	out := make([]uint64, n)
-	for i := range out {
-		s = s*6364136223846793005 + 1442695040888963407
-		out[i] = s ^ s>>29
-	}
-	return out
-}
-
 // near: a pattern whose exponent is that of a or lies a little beside it, of any sign.
 func near(f api.Format, a, word uint64) uint64 {
 	steps := (word>>8)%121 - 60
@@ -87,7 +76,7 @@ func near(f api.Format, a, word uint64) uint64 {
 }
 
 func TestP9_10_NearExponents(t *testing.T) {
-	w := words(30000)
+	w := oracle.Words(30000)
 	for _, f := range oracle.Formats() {
 		for i := 0; i < len(w); i += 2 {
 			a := w[i] >> (64 - f)
@@ -98,7 +87,7 @@ func TestP9_10_NearExponents(t *testing.T) {
 
 // For Single the machine's root in float64 is rounded once more: that float64 has bits enough for this to be the root rounded once.
 func TestP9_10_Roots(t *testing.T) {
-	w := words(20000)
+	w := oracle.Words(20000)
 	for _, f := range oracle.Formats() {
 		list := patterns(f)
 		for _, b := range w {
@@ -124,7 +113,7 @@ func TestP9_10_Fused(t *testing.T) {
 
 // Addends near the product, so that much or all of it is taken away.
 func TestP9_10_FusedNearExponents(t *testing.T) {
-	w := words(45000)
+	w := oracle.Words(45000)
 	for i := 0; i < len(w); i += 3 {
 		a, b := w[i], w[i+1]
 		p := math.Float64bits(math.Float64frombits(a) * math.Float64frombits(b))
