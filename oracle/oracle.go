@@ -1,4 +1,4 @@
-// Package oracle is what the tests hold the layers against: the library's own whole numbers and fractions, exact sums and products of floats, pi, sines, cosines and tangents by other ways, and numbers worth trying. No layer calls it.
+// Package oracle is what the tests hold the layers against: the library's own whole numbers and fractions, exact sums and products of floats, pi, remainders by pi/2, sines, cosines and tangents by other ways, and numbers worth trying. No layer calls it.
 package oracle
 
 import (

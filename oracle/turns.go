@@ -55,11 +55,11 @@ func Eighths(f api.Format) []float64 {
 	if f == api.Single {
 		whole = 0x1p23
 	}
-	for _, top := range []float64{whole / 4, whole / 2, whole, 2 * whole} {
+	for _, top := range []float64{whole / 4, whole / 2, whole, float64(2 * whole)} {
 		for i := range 8 {
-			step := float64(i) * top / whole / 2
-			out = append(out, top-step, top+2*step)
+			step := float64(float64(i)*top) / whole / 2
+			out = append(out, top-step, top+float64(2*step))
 		}
 	}
-	return append(out, 4*whole, 0x1p100, 0x1p127)
+	return append(out, float64(4*whole), 0x1p100, 0x1p127)
 }
