@@ -1,4 +1,4 @@
-// Package angles has the numbers on which reductions by pi/2 are tried. Tests alone call it.
+// Package angles has the numbers on which reductions by pi/2 are tried, and the remainders on which functions of them are. Tests alone call it.
 package angles
 
 import (
