@@ -110,7 +110,7 @@ func TestProductsAreWrapped(t *testing.T) {
 			t.Errorf("%v: a product that is not written float64(a*b)", read.set.Position(n.Pos()))
 		}
 	}
-	for _, name := range []string{"../eft", "../dd", "../payne", "../fastreduce", "../sintable", "../kernel"} {
+	for _, name := range []string{"../eft", "../dd", "../payne", "../fastreduce", "../sintable", "../kernel", "../accept", "../trig"} {
 		if !seen[name] {
 			t.Errorf("%s was not looked at", name)
 		}
